@@ -1,0 +1,125 @@
+package tests
+
+import (
+	"slices"
+	"testing"
+
+	"loop.example/tideline/impl"
+)
+
+// mark is written where the program must not write: no ok time, so that a use of it shows, too.
+var mark = impl.Time{A: -77, B: 77}
+
+// withRoom is a list with room behind its end, filled with marks.
+func withRoom(list []impl.Time) []impl.Time {
+	roomy := slices.Clone(list)
+	for range 2 * count {
+		roomy = append(roomy, mark)
+	}
+	return roomy[:len(list)]
+}
+
+func untouched(roomy []impl.Time, list []impl.Time) bool {
+	all := roomy[:cap(roomy)]
+	for _, t := range all[len(list) : len(list)+2*count] {
+		if t != mark {
+			return false
+		}
+	}
+	return slices.Equal(roomy, list)
+}
+
+// scribble writes over a whole list, its spare room included.
+func scribble(list []impl.Time) {
+	all := list[:cap(list)]
+	for i := range all {
+		all[i] = at(5, 5)
+	}
+}
+
+// memoryLists are fronts, and lists that are none, of ok times and not.
+func memoryLists() [][]impl.Time {
+	lists := [][]impl.Time{
+		nil,
+		{at(0, 0)},
+		{at(7, 7)},
+		{at(1, 3), at(3, 1)},
+		{at(0, 7), at(1, 6), at(2, 5), at(3, 4), at(4, 3), at(5, 2), at(6, 1), at(7, 0)},
+		{at(7, 0), at(6, 1), at(5, 2), at(4, 3), at(3, 4)},
+		{at(5, 1), at(3, 3), at(1, 5), at(3, 3), at(2, 1)},
+		{at(4, 4), at(4, 4)},
+		{at(3, 3), at(2, 2), at(1, 1)},
+		{at(1, 6), at(3, 8), at(5, 2)},
+		{at(-1, 7)},
+	}
+	return append(lists, mixedLists()[:200]...)
+}
+
+func TestNoArgumentIsWrittenInto(t *testing.T) {
+	for _, list := range memoryLists() {
+		f := withRoom(list)
+		impl.FrontOk(f)
+		impl.FrontOf(f)
+		for _, s := range append(allTimes(), badTimes()...) {
+			impl.FrontCovers(f, s)
+			impl.FrontMove(f, s)
+		}
+		if !untouched(f, list) {
+			t.Fatalf("%v was written into: %v", list, f)
+		}
+		for _, other := range memoryLists() {
+			g := withRoom(other)
+			impl.FrontBoth(f, g)
+			impl.FrontBoth(g, f)
+			impl.FrontBoth(f, f)
+			if !untouched(f, list) || !untouched(g, other) {
+				t.Fatalf("%v or %v was written into: %v, %v", list, other, f, g)
+			}
+		}
+	}
+}
+
+func TestAnAnswerSharesNoMemory(t *testing.T) {
+	for _, list := range memoryLists() {
+		f := withRoom(list)
+		first := impl.FrontOf(f)
+		want := slices.Clone(first)
+		second := impl.FrontOf(f)
+		scribble(first)
+		if !untouched(f, list) {
+			t.Fatalf("FrontOf of %v shares memory with it", list)
+		}
+		if !slices.Equal(second, want) || !slices.Equal(impl.FrontOf(f), want) {
+			t.Fatalf("two answers of FrontOf of %v share memory", list)
+		}
+		for _, other := range memoryLists() {
+			checkBothIsNew(t, list, other)
+		}
+	}
+}
+
+func checkBothIsNew(t *testing.T, list []impl.Time, other []impl.Time) {
+	t.Helper()
+	f, g := withRoom(list), withRoom(other)
+	first := impl.FrontBoth(f, g)
+	want := slices.Clone(first)
+	second := impl.FrontBoth(f, g)
+	scribble(first)
+	if !untouched(f, list) || !untouched(g, other) {
+		t.Fatalf("FrontBoth of %v and %v shares memory with them", list, other)
+	}
+	if !slices.Equal(second, want) || !slices.Equal(impl.FrontBoth(f, g), want) {
+		t.Fatalf("two answers of FrontBoth of %v and %v share memory", list, other)
+	}
+}
+
+func TestOneListAsBothArguments(t *testing.T) {
+	whole := []impl.Time{at(0, 6), at(2, 4), at(4, 2), at(6, 0)}
+	f := withRoom(whole)
+	if got := impl.FrontBoth(f[:2], f[1:]); !slices.Equal(got, []impl.Time{at(2, 4)}) {
+		t.Errorf("FrontBoth of two pieces of %v is %v", whole, got)
+	}
+	if !untouched(f, whole) {
+		t.Errorf("%v was written into: %v", whole, f)
+	}
+}
