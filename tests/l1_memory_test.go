@@ -10,19 +10,21 @@ import (
 // mark is written where the program must not write: no ok time, so that a use of it shows, too.
 var mark = impl.Time{A: -77, B: 77}
 
+// room is how many marks there are behind a list: more than an answer could need.
+const room = 512
+
 // withRoom is a list with room behind its end, filled with marks.
-func withRoom(list []impl.Time) []impl.Time {
+func withRoom[T any](list []T, mark T) []T {
 	roomy := slices.Clone(list)
-	for range 2 * count {
+	for range room {
 		roomy = append(roomy, mark)
 	}
 	return roomy[:len(list)]
 }
 
-func untouched(roomy []impl.Time, list []impl.Time) bool {
-	all := roomy[:cap(roomy)]
-	for _, t := range all[len(list) : len(list)+2*count] {
-		if t != mark {
+func untouched[T comparable](roomy []T, list []T, mark T) bool {
+	for _, x := range roomy[len(list) : len(list)+room] {
+		if x != mark {
 			return false
 		}
 	}
@@ -30,10 +32,10 @@ func untouched(roomy []impl.Time, list []impl.Time) bool {
 }
 
 // scribble writes over a whole list, its spare room included.
-func scribble(list []impl.Time) {
+func scribble[T any](list []T, over T) {
 	all := list[:cap(list)]
 	for i := range all {
-		all[i] = at(5, 5)
+		all[i] = over
 	}
 }
 
@@ -57,22 +59,22 @@ func memoryLists() [][]impl.Time {
 
 func TestNoArgumentIsWrittenInto(t *testing.T) {
 	for _, list := range memoryLists() {
-		f := withRoom(list)
+		f := withRoom(list, mark)
 		impl.FrontOk(f)
 		impl.FrontOf(f)
 		for _, s := range append(allTimes(), badTimes()...) {
 			impl.FrontCovers(f, s)
 			impl.FrontMove(f, s)
 		}
-		if !untouched(f, list) {
+		if !untouched(f, list, mark) {
 			t.Fatalf("%v was written into: %v", list, f)
 		}
 		for _, other := range memoryLists() {
-			g := withRoom(other)
+			g := withRoom(other, mark)
 			impl.FrontBoth(f, g)
 			impl.FrontBoth(g, f)
 			impl.FrontBoth(f, f)
-			if !untouched(f, list) || !untouched(g, other) {
+			if !untouched(f, list, mark) || !untouched(g, other, mark) {
 				t.Fatalf("%v or %v was written into: %v, %v", list, other, f, g)
 			}
 		}
@@ -81,12 +83,12 @@ func TestNoArgumentIsWrittenInto(t *testing.T) {
 
 func TestAnAnswerSharesNoMemory(t *testing.T) {
 	for _, list := range memoryLists() {
-		f := withRoom(list)
+		f := withRoom(list, mark)
 		first := impl.FrontOf(f)
 		want := slices.Clone(first)
 		second := impl.FrontOf(f)
-		scribble(first)
-		if !untouched(f, list) {
+		scribble(first, at(5, 5))
+		if !untouched(f, list, mark) {
 			t.Fatalf("FrontOf of %v shares memory with it", list)
 		}
 		if !slices.Equal(second, want) || !slices.Equal(impl.FrontOf(f), want) {
@@ -100,12 +102,12 @@ func TestAnAnswerSharesNoMemory(t *testing.T) {
 
 func checkBothIsNew(t *testing.T, list []impl.Time, other []impl.Time) {
 	t.Helper()
-	f, g := withRoom(list), withRoom(other)
+	f, g := withRoom(list, mark), withRoom(other, mark)
 	first := impl.FrontBoth(f, g)
 	want := slices.Clone(first)
 	second := impl.FrontBoth(f, g)
-	scribble(first)
-	if !untouched(f, list) || !untouched(g, other) {
+	scribble(first, at(5, 5))
+	if !untouched(f, list, mark) || !untouched(g, other, mark) {
 		t.Fatalf("FrontBoth of %v and %v shares memory with them", list, other)
 	}
 	if !slices.Equal(second, want) || !slices.Equal(impl.FrontBoth(f, g), want) {
@@ -115,11 +117,11 @@ func checkBothIsNew(t *testing.T, list []impl.Time, other []impl.Time) {
 
 func TestOneListAsBothArguments(t *testing.T) {
 	whole := []impl.Time{at(0, 6), at(2, 4), at(4, 2), at(6, 0)}
-	f := withRoom(whole)
+	f := withRoom(whole, mark)
 	if got := impl.FrontBoth(f[:2], f[1:]); !slices.Equal(got, []impl.Time{at(2, 4)}) {
 		t.Errorf("FrontBoth of two pieces of %v is %v", whole, got)
 	}
-	if !untouched(f, whole) {
+	if !untouched(f, whole, mark) {
 		t.Errorf("%v was written into: %v", whole, f)
 	}
 }
