@@ -202,15 +202,17 @@ func rowLists() [][]impl.Row {
 	return lists
 }
 
-// fewFronts are some of each length there is.
+// fewFronts are some six of each length there is, far apart, or the one there is.
 func fewFronts() [][]impl.Time {
+	var byLength [side + 1][][]impl.Time
+	for _, f := range allFronts() {
+		byLength[len(f)] = append(byLength[len(f)], f)
+	}
 	var few [][]impl.Time
-	seen := map[int]int{}
-	for i, f := range someFronts() {
-		if seen[len(f)] < 5 || i%7 == 0 {
-			few = append(few, f)
+	for _, fronts := range byLength {
+		for i := 0; i < len(fronts); i += len(fronts)/6 + 1 {
+			few = append(few, fronts[i])
 		}
-		seen[len(f)]++
 	}
 	return few
 }
