@@ -9,10 +9,10 @@ import (
 	"loop.example/tideline/impl"
 )
 
-// some is rows as a test tells them: not all of many.
-func some(list []impl.Row) string {
+// some is a list as a test tells it: not all of many.
+func some[T any](list []T) string {
 	if len(list) > 12 {
-		return fmt.Sprintf("%d rows, first %v", len(list), list[:12])
+		return fmt.Sprintf("%d of them, first %v", len(list), list[:12])
 	}
 	return fmt.Sprintf("%v", list)
 }

@@ -73,14 +73,14 @@ func TestNoRowsAreWrittenInto(t *testing.T) {
 }
 
 // checkNew asks twice, writes over the first answer, and looks whether anything else changed.
-func checkNew[T comparable](t *testing.T, name string, over T, list []impl.Row, ask func(a []impl.Row) []T) {
+func checkNew[S comparable, T comparable](t *testing.T, name string, over T, list []S, mark S, ask func(a []S) []T) {
 	t.Helper()
-	a := withRoom(list, rowMark)
+	a := withRoom(list, mark)
 	first := ask(a)
 	want := slices.Clone(first)
 	second := ask(a)
 	scribble(first, over)
-	if !untouched(a, list, rowMark) {
+	if !untouched(a, list, mark) {
 		t.Fatalf("%s of %s shares memory with it", name, some(list))
 	}
 	if !slices.Equal(second, want) || !slices.Equal(ask(a), want) {
@@ -93,13 +93,13 @@ func TestWhatIsMadeOfRowsSharesNoMemory(t *testing.T) {
 	f := withRoom(front, mark)
 	for _, list := range memoryRows() {
 		for name, maker := range makers(f) {
-			checkNew(t, name, row(2, 2, 5, 5, 5), list, maker)
+			checkNew(t, name, row(2, 2, 5, 5, 5), list, rowMark, maker)
 		}
-		checkNew(t, "BatchAt", item(2, 2, 2), list, func(a []impl.Row) []impl.Item { return impl.BatchAt(a, at(4, 4)) })
-		checkNew(t, "BatchTimes", at(5, 5), list, impl.BatchTimes)
+		checkNew(t, "BatchAt", item(2, 2, 2), list, rowMark, func(a []impl.Row) []impl.Item { return impl.BatchAt(a, at(4, 4)) })
+		checkNew(t, "BatchTimes", at(5, 5), list, rowMark, impl.BatchTimes)
 		for _, other := range memoryRows() {
 			b := withRoom(other, rowMark)
-			checkNew(t, "BatchBoth", row(2, 2, 5, 5, 5), list, func(a []impl.Row) []impl.Row { return impl.BatchBoth(a, b) })
+			checkNew(t, "BatchBoth", row(2, 2, 5, 5, 5), list, rowMark, func(a []impl.Row) []impl.Row { return impl.BatchBoth(a, b) })
 			if !untouched(b, other, rowMark) {
 				t.Fatalf("BatchBoth of %s and %s shares memory with the second", some(list), some(other))
 			}
