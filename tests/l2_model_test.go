@@ -1,13 +1,14 @@
 package tests
 
 import (
+	"maps"
 	"math"
 	"slices"
 
 	"loop.example/tideline/impl"
 )
 
-// The model of batches is a number for each key, value and time there is, so that what is summed up is looked up, and in order.
+// The model of batches is a number for each place, of which each key, value and time there is has one, in order.
 
 const (
 	keys     = 4
@@ -16,19 +17,17 @@ const (
 	rowsMost = 400
 )
 
-type grid [keys * vals * count]int
-
-func gridOf(lists ...[]impl.Row) *grid {
-	var g grid
+func gridOf(lists ...[]impl.Row) map[int]int {
+	g := map[int]int{}
 	for _, list := range lists {
 		for _, r := range list {
 			g[(r.Key*vals+r.Val)*count+placeOf(r.At)] += r.Diff
 		}
 	}
-	return &g
+	return g
 }
 
-// rowAt is a row of the key, value and time that stand at a place of the grid.
+// rowAt is a row of the key, value and time that have a place.
 func rowAt(place int, diff int) impl.Row {
 	return row(place/(vals*count), place/count%vals, place/side%side, place%side, diff)
 }
@@ -37,7 +36,9 @@ func rowAt(place int, diff int) impl.Row {
 func wantBatch(lists ...[]impl.Row) ([]impl.Row, bool) {
 	var want []impl.Row
 	ok := true
-	for place, diff := range gridOf(lists...) {
+	g := gridOf(lists...)
+	for _, place := range slices.Sorted(maps.Keys(g)) {
+		diff := g[place]
 		if diff != 0 {
 			want = append(want, rowAt(place, diff))
 		}
