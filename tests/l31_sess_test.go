@@ -460,7 +460,7 @@ func TestWhatComesInIsSummedUpTheSameHoweverItRuns(t *testing.T) {
 		}
 	}
 	// One that is joined may still have to end.
-	for range 10000 {
+	for range 10_000_000 {
 		if runtime.NumGoroutine() <= before {
 			return
 		}
