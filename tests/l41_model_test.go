@@ -306,7 +306,7 @@ func whatLines() []string {
 		"on\t", "on\r", "\ron", "\ton", "on\v", "on\x00", "\x00on", "on\xff", "\xffon", "on\u00a0", "\ufeffon", "on\t0 0", "at\t0 0", "at\t0\t0", "in\t0 1 2 0 0 1", "at\r 0 0", "plan\r 1", "on\u20280 0",
 		"ON", "On", "oN", "AT 0 0", "At 0 0", "IN 0 1 2 0 0 1", "In 0 1 2 0 0 1", "PLAN", "Plan 1", "pLAN 0 0",
 		"o", "n", "onn", "oon", "i", "inn", "a", "t", "att", "pla", "plann", "lan", "no", "told", "there", "told 1", "too", "what", "what 1", "what 0 0", "what 0 1 2 0 0 1",
-		"0", "1 2", "0 0", "-", "-1", "-1 -1", "0 1 2 0 0 1", "0 0 1 2 0 0 1", "\t", "\r", "\x00", "\x7f", "\x80", "\xff", "\xff 1", "\x00 0 0", "\u00f6n", "\uff4f\uff4e", "\u043en",
+		"0", "1 2", "0 0", " 0", " 0 0", " -1 2", " 0 1 2 0 0 1", "-", "-1", "-1 -1", "0 1 2 0 0 1", "0 0 1 2 0 0 1", "\t", "\r", "\x00", "\x7f", "\x80", "\xff", "\xff 1", "\x00 0 0", "\u00f6n", "\uff4f\uff4e", "\u043en",
 	}
 	for _, first := range []string{"in", "at", "on"} {
 		for n := range 15 {
